@@ -1,0 +1,1 @@
+"""Slotfitter: rows cut to those that stand."""

@@ -1,0 +1,18 @@
+"""What README.md shows is what the program does."""
+
+import doctest
+import pathlib
+import unittest
+
+README = pathlib.Path(__file__).resolve().parent.parent / "README.md"
+
+
+class ReadmeTest(unittest.TestCase):
+    def test_its_examples(self):
+        outcome = doctest.testfile(str(README), module_relative=False, encoding="utf-8")
+        self.assertGreater(outcome.attempted, 0)
+        self.assertEqual(outcome.failed, 0)
+
+
+if __name__ == "__main__":
+    unittest.main()
