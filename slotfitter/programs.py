@@ -73,13 +73,17 @@ def is_place(program, place):
     return 0 <= block < len(program) and 0 <= at < len(program[block][0])
 
 
-def without(program, places):
-    """The program without the rows at a list of places."""
-    gone = {}
+def check_places(program, places):
+    """Refuse a list of places with one at which no row stands."""
     for place in places:
         if not is_place(program, place):
             raise NoPlace("no row stands at one of the places")
-        gone[place] = True
+
+
+def without(program, places):
+    """The program without the rows at a list of places."""
+    check_places(program, places)
+    gone = {place: True for place in places}
     rest = []
     for number, (rows, ways) in enumerate(program):
         left = [row for at, row in enumerate(rows) if (number, at) not in gone]

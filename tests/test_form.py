@@ -12,6 +12,10 @@ FUNCTIONS = {
     "rows": {"is_name": ["thing"], "done": ["slots", "works", "row"]},
     "programs": {"checked": ["program"], "without": ["program", "places"], "reached": ["program"]},
     "runs": {"told": ["program", "start", "works", "road"], "blocks_on": ["program", "road"]},
+    "needs": {"ahead": ["rows", "behind"], "needed": ["program"]},
+    "cuts": {"kept": ["program"], "cut": ["program"]},
+    "shows": {"road_to": ["program", "block"], "flow": ["program", "block", "slot"], "parting": ["program", "places"]},
+    "texts": {"shown": ["program"], "read": ["text"]},
 }
 CLASSES = {
     "errors": ["FitError", "NoBlock", "TooMany", "NoName", "SignTwice", "NoWay", "NoPlace", "NoLine"],

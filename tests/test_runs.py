@@ -5,7 +5,7 @@ import unittest
 
 from slotfitter.rows import done
 from slotfitter.runs import blocks_on, told
-from tests.samples import check_new, loops, make, tell, word
+from tests.samples import any_program, any_works, check_new, loops, make, tell, word
 
 
 class BlocksOnTest(unittest.TestCase):
@@ -130,20 +130,9 @@ class ToldTest(unittest.TestCase):
 
 def any_run(chance):
     """Some program, start, works and road."""
-    many = chance.randint(1, 4)
-    program = []
-    for block in range(many):
-        rows = []
-        for at in range(chance.randint(0, 4)):
-            if chance.random() < 0.3:
-                rows.append(tell(chance.choice("abc")))
-            else:
-                reads = [chance.choice("abc") for _ in range(chance.randint(0, 2))]
-                rows.append(make(chance.choice("abc"), word(10 * block + at), *reads))
-        program.append((rows, [chance.randrange(many) for _ in range(chance.randint(0, 3))]))
+    program = any_program(chance)
     start = {slot: chance.randint(-9, 9) for slot in "abc" if chance.random() < 0.6}
-    works = {word(number): tuple(chance.randint(-3, 3) for _ in range(3))
-             for number in range(40) if chance.random() < 0.6}
+    works = any_works(chance, program, 0.6)
     return program, start, works, [chance.randint(-5, 5) for _ in range(chance.randint(0, 8))]
 
 
