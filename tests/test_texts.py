@@ -152,8 +152,9 @@ class NoLineTest(unittest.TestCase):
 
     def test_a_text_that_does_not_end_behind_a_to_lines_end(self):
         self.assert_no_line("block", "block\n", "block\nto", "block\ntell a\n", "block\na = f\n",
-                            "block\nto 0\nblock\n", "block\nto\nblock\nto", "block\nto\nblock\ntell a\n", "block\nto\n ", "block\nto\nblock",
-                            "block\nto\n\n", "\n", "\n\n", " ", "a", "\nblock\nto\n")
+                            "block\nto 0\nblock\n", "block\nto\nblock\nto", "block\nto\nblock\ntell a\n",
+                            "block\nto\n ", "block\nto\nblock", "block\nto\n\n", "\nblock\nto\n",
+                            "\n", "\n\n", " ", "a")
         for length in range(1, len(LOOPS)):
             if not WRITTEN.fullmatch(LOOPS[:length]):
                 self.assert_no_line(LOOPS[:length])
